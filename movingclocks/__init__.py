@@ -1,0 +1,1 @@
+"""Moving clocks: events, factors and ways, told exactly."""
