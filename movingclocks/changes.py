@@ -1,7 +1,7 @@
 """The calls that change an object. Each takes the world and the numbers given, and answers a list."""
 
-from movingclocks.exact import lowest
-from movingclocks.factors import is_factor, together
+from movingclocks.exact import lowest, times
+from movingclocks.factors import is_factor
 from movingclocks.refusals import NO_LEG, NO_SUCH, OUT_OF_RANGE, TOO_GREAT, TOO_MANY
 
 FARTHEST = 99
@@ -48,7 +48,7 @@ def more(world, given):
     q = given[1]
     if not is_factor(p, q):
         return [OUT_OF_RANGE]
-    factor = together(world.factor, (p, q))
+    factor = times(world.factor, (p, q))
     if factor[0] > GREATEST_PART or factor[1] > GREATEST_PART:
         return [TOO_GREAT]
     world.factor = factor
@@ -67,7 +67,7 @@ def leg(world, given):
     legs = world.ways[w]
     if len(legs) == MOST_LEGS:
         return [TOO_MANY]
-    legs.append((lowest(p, q), shown))
+    legs.append(lowest(p, q) + (shown,))
     return [len(legs) - 1]
 
 

@@ -1,13 +1,15 @@
 """The calls on one object, handed in as one list of whole numbers."""
 
 from movingclocks.changes import CHANGES
+from movingclocks.history import HISTORY, change
 from movingclocks.looks import LOOKS
 from movingclocks.refusals import NOT_BEGUN
+from movingclocks.ways import WAYS
 from movingclocks.world import World
 
 BEGIN = 0
 
-# Every call's count stands here, since ahead of a begin each is walked over and refused.
+# By a call's number. Ahead of a begin, too, a call's numbers must be walked over.
 ARGUMENTS = (0, 2, 1, 2, 2, 4, 1, 0, 0, 0, 1, 2, 2, 2, 2, 4, 4, 1, 1, 1, 1, 0, 0, 0, 0)
 
 
@@ -33,5 +35,9 @@ def answer_of(world, number, given):
     if number == BEGIN:
         return [0]
     if number in CHANGES:
-        return CHANGES[number](world, given)
-    return LOOKS[number](world, given)
+        return change(world, number, given)
+    if number in LOOKS:
+        return LOOKS[number](world, given)
+    if number in WAYS:
+        return WAYS[number](world, given)
+    return HISTORY[number](world, given)

@@ -1,4 +1,4 @@
-"""What a factor does. A factor is a tuple (p, q) with nothing in common."""
+"""What a factor does. A factor is a fraction (p, q), both above 0; two put together are multiplied."""
 
 from movingclocks.exact import lowest
 
@@ -7,10 +7,6 @@ GREATEST_GIVEN = 9
 
 def is_factor(p, q):
     return 1 <= p <= GREATEST_GIVEN and 1 <= q <= GREATEST_GIVEN
-
-
-def together(one, other):
-    return lowest(one[0] * other[0], one[1] * other[1])
 
 
 def speed_of(factor):

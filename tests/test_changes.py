@@ -3,17 +3,12 @@
 import unittest
 
 from tests.helper import (
-    BEGIN, EVENTS, FACTOR, GREATEST, GREATEST_PLAIN, LEAST, LEGS_LEFT, SPEED, all_seen, last, legs, puts, run,
+    BEGIN, EVENTS, FACTOR, GREATEST, GREATEST_PLAIN, LEAST, LEGS_LEFT, SPEED, WRONG_PARTS, all_seen, last, legs, puts,
+    run,
 )
 
 FULL = (BEGIN,) + puts(8) + (("move", 9, 7),) + legs(0, 6) + legs(1, 6)
 PARTLY = (BEGIN,) + puts(3) + (("move", 3, 2),) + legs(0, 2) + legs(1, 1)
-
-WRONG_PARTS = tuple(
-    pair
-    for wrong in (0, 10, GREATEST_PLAIN)
-    for pair in ((wrong, 1), (1, wrong), (wrong, 9), (9, wrong), (wrong, wrong))
-)
 
 
 class Refused(unittest.TestCase):

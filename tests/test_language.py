@@ -22,6 +22,11 @@ OWN_NAMES = (
     "repr any all divmod Exception ValueError TypeError KeyError IndexError LookupError ZeroDivisionError "
     "ArithmeticError OverflowError RuntimeError NotImplementedError AttributeError StopIteration"
 ).split()
+METHODS = (
+    "append clear copy count endswith extend find get index insert isalnum isalpha isdigit islower isspace isupper items "
+    "join keys ljust lower lstrip partition pop remove replace reverse rfind rjust rpartition rsplit rstrip setdefault "
+    "split splitlines startswith strip update upper values zfill bit_length"
+).split()
 WORDS = (
     r"\b(type|typing|typing_extensions|enum|Enum|IntEnum|StrEnum|Flag|IntFlag|Generic|Protocol|ABC|ABCMeta|namedtuple|"
     r"NamedTuple|TypedDict|TYPE_CHECKING|abstractmethod)\b|dataclass|overload|contextmanager"
@@ -50,6 +55,25 @@ def bound_names(tree):
     return names
 
 
+def top_names(tree):
+    """The names that a file's top binds itself, in their order."""
+    names = []
+    for node in tree.body:
+        if isinstance(node, (ast.FunctionDef, ast.ClassDef)):
+            names.append(node.name)
+        elif isinstance(node, ast.Assign):
+            names.append(node.targets[0].id)
+    return names
+
+
+def imported_names(tree):
+    return [(node.module, alias.name) for node in tree.body if isinstance(node, ast.ImportFrom) for alias in node.names]
+
+
+def module_of(name):
+    return "movingclocks." + name.removesuffix(".py")
+
+
 class Language(unittest.TestCase):
     def test_l1_l14_files_and_signs(self):
         self.assertTrue(FILES)
@@ -63,6 +87,70 @@ class Language(unittest.TestCase):
             self.assertEqual(node.level, 0, name)
             self.assertTrue(node.module.startswith("movingclocks."), name)
             self.assertTrue(all(alias.name != "*" and alias.asname is None for alias in node.names), name)
+
+    def test_l3_the_top_of_a_module(self):
+        for name, tree in trees():
+            self.assertIsNotNone(ast.get_docstring(tree), name)
+            for node in tree.body[1:]:
+                self.assertIsInstance(node, (ast.ImportFrom, ast.FunctionDef, ast.ClassDef, ast.Assign), name)
+                if not isinstance(node, ast.Assign):
+                    continue
+                above = top_names(tree)[:top_names(tree).index(node.targets[0].id)]
+                for part in ast.walk(node.value):
+                    plain = (ast.Constant, ast.List, ast.Tuple, ast.Dict, ast.Name, ast.Load, ast.UnaryOp, ast.USub)
+                    self.assertIsInstance(part, plain, (name, node.lineno))
+                    if isinstance(part, ast.Name):
+                        self.assertIn(part.id, above, (name, node.lineno))
+                    if part is not node.value:
+                        self.assertNotIsInstance(part, (ast.List, ast.Dict), (name, node.lineno))
+
+    def test_l15_each_name_once(self):
+        for name, tree in trees():
+            names = top_names(tree) + [imported for module, imported in imported_names(tree)]
+            self.assertEqual(len(names), len(set(names)), name)
+            at_top = {node for node in tree.body if isinstance(node, ast.Assign)}
+            kept = {node.targets[0].id for node in at_top}
+            kept |= {imported for module, imported in imported_names(tree)}
+            kept |= {node.name for node in tree.body if isinstance(node, ast.ClassDef)}
+            for node in ast.walk(tree):
+                if isinstance(node, ast.arg):
+                    self.assertNotIn(node.arg, kept, name)
+                if isinstance(node, ast.Assign) and node not in at_top or isinstance(node, (ast.For, ast.AugAssign)):
+                    target = node.targets[0] if isinstance(node, ast.Assign) else node.target
+                    self.assertNotIn(getattr(target, "id", None), kept, (name, node.lineno))
+
+    def test_l16_from_the_very_file_and_in_no_ring(self):
+        defined = {module_of(name): top_names(tree) for name, tree in trees()}
+        drawn = {module_of(name): {module for module, word in imported_names(tree)} for name, tree in trees()}
+        for name, tree in trees():
+            for module, word in imported_names(tree):
+                self.assertIn(word, defined[module], name)
+        while drawn:
+            free = [module for module in drawn if not drawn[module] & set(drawn)]
+            self.assertTrue(free, drawn)
+            for module in free:
+                del drawn[module]
+        self.assertEqual([module for module in defined if "answers" in defined[module]], ["movingclocks.clocks"])
+        self.assertEqual(defined["movingclocks.__init__"], [])
+
+    def test_l18_l25_methods_and_values(self):
+        methods = {
+            node.name for name, kind in nodes(ast.ClassDef) for node in kind.body if isinstance(node, ast.FunctionDef)
+        }
+        values = {
+            node.attr for name, node in nodes(ast.Attribute) if isinstance(node.ctx, ast.Store)
+        }
+        self.assertFalse(methods & values)
+        of_python = {word for kind in (str, int, list, dict, set, bytes) for word in dir(kind)}
+        self.assertFalse((methods - {"__init__"} | values) & of_python)
+        for name, node in nodes(ast.Attribute):
+            self.assertIn(node.attr, methods | values | set(METHODS), (name, node.lineno))
+
+    def test_l20_is_stands_beside_none_true_and_false(self):
+        for name, node in nodes(ast.Compare):
+            for sign, right in zip(node.ops, node.comparators):
+                if isinstance(sign, (ast.Is, ast.IsNot)):
+                    self.assertIn(getattr(right, "value", right), (None, True, False), (name, node.lineno))
 
     def test_l4_functions(self):
         for name, node in nodes(ast.FunctionDef):

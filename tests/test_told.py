@@ -3,28 +3,10 @@
 import unittest
 from fractions import Fraction
 
-from tests.helper import BEGIN, EVENTS, FACTOR, GREATEST_PLAIN, SPEED, all_seen, last, puts, run
-
-UP_TO_980 = (("move", 7, 1), ("more", 7, 1), ("more", 5, 1), ("more", 4, 1))
-DOWN_TO_980 = (("move", 1, 7), ("more", 1, 7), ("more", 1, 5), ("more", 1, 4))
-BOTH_GREAT = (("move", 9, 8), ("more", 9, 8), ("more", 9, 8))
-
-# Each with the factor that the calls lead to.
-FACTORS = (
-    ((), Fraction(1)),
-    ((("move", 9, 9),), Fraction(1)),
-    ((("move", 2, 1),), Fraction(2)),
-    ((("move", 2, 6),), Fraction(1, 3)),
-    ((("move", 5, 3), ("more", 7, 9)), Fraction(35, 27)),
-    (UP_TO_980, Fraction(980)),
-    (DOWN_TO_980, Fraction(1, 980)),
-    (BOTH_GREAT, Fraction(729, 512)),
+from tests.helper import (
+    BEGIN, EVENTS, FACTOR, FACTORS, GREATEST_PLAIN, PLACES, SPEED, UP_TO_980, all_seen, last, puts, run, two_events,
+    two_numbers,
 )
-PLACES = ((0, 0), (1, 0), (0, 1), (3, 3), (3, -3), (-7, 2), (99, 99), (99, -99), (-99, 99), (-99, -99), (99, -98))
-
-
-def two_numbers(*fractions):
-    return [n for fraction in fractions for n in (fraction.numerator, fraction.denominator)]
 
 
 def told(factor, t, x):
@@ -116,10 +98,6 @@ class Tells(unittest.TestCase):
         for i in (2, 3, 8, GREATEST_PLAIN):
             self.assertEqual(last(BEGIN, *puts(2), ("tells", i)), [-2])
         self.assertEqual(last(BEGIN, *puts(8), ("tells", 8)), [-2])
-
-
-def two_events(one, other):
-    return (BEGIN, ("put", *one), ("put", *other))
 
 
 class Apart(unittest.TestCase):
